@@ -1,0 +1,1 @@
+"""Contractbook: what contracts owe in every future."""
