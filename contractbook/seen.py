@@ -34,3 +34,11 @@ def holds(asked, row):
     if word == "all":
         return holds(asked[1], row) and holds(asked[2], row)
     return holds(asked[1], row) or holds(asked[2], row)
+
+
+def names_in(told):
+    """The names that a number or a condition reads, ascending, each once."""
+    if told[0] == "read":
+        return [told[1]]
+    inner = [names_in(part) for part in told[1:] if isinstance(part, tuple)]
+    return sorted({name for names in inner for name in names})
