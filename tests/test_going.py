@@ -520,6 +520,17 @@ class TestCut(Going):
         self.assertEqual(sizes[100], sizes[299])
         self.assertEqual(owed(rest, rain(10, 0)), [(0, "ann", "bob", "gold", 100)])
 
+    def test_a_rest_that_is_cut_hour_by_hour_is_no_larger_than_one_cut_at_once(self):
+        for number in (RAIN, num(3), ("times", num(2), RAIN), ("minus", num(4), ("times", RAIN, num(3)))):
+            contract = ("often", 9, 1, ("when", above(2), give(number)))
+            with self.subTest(number=number):
+                rest = contract
+                for hours in range(1, 12):
+                    _, rest = cut(rest, rain(0))
+                    _, at_once = cut(contract, rain(*[0] * hours))
+                    self.assertEqual(size_of(rest), size_of(at_once))
+                    self.assertEqual(owed(rest, rain(5)), owed(at_once, rain(5)))
+
     def test_gives_that_become_alike_are_all_left(self):
         back = ("when", above(2), give(RAIN, "bob", "ann"))
         contract = ("both", ("often", 3, 1, ("when", above(2), give(RAIN))), back)
