@@ -28,10 +28,17 @@ EVERY_BUILTIN = set(dir(__builtins__))
 BARRED = set("type typing typing_extensions enum Enum IntEnum StrEnum Flag IntFlag Generic Protocol ABC ABCMeta "
              "namedtuple NamedTuple TypedDict TYPE_CHECKING abstractmethod".split())
 BARRED_NAMES = set("register mro elements open input law version_info with_traceback add_note".split())
+METHODS = set("""
+    append clear copy count endswith extend find get index insert isalnum isalpha isdigit islower isspace isupper items
+    join keys ljust lower lstrip partition pop remove replace reverse rfind rjust rpartition rsplit rstrip setdefault
+    split splitlines startswith strip update upper values zfill bit_length sort title capitalize swapcase casefold
+    center expandtabs removeprefix removesuffix rindex isascii isdecimal isnumeric istitle isidentifier isprintable
+    translate maketrans format add discard encode decode hex from_bytes
+""".split())
 STATEMENTS = (ast.Global, ast.AsyncFunctionDef, ast.AsyncFor, ast.AsyncWith, ast.Await)
 
 
-def look(path, found):
+def look(path, own_methods, found):
     text = path.read_text(encoding="utf-8")
     lines = text.split("\n")
 
@@ -45,8 +52,30 @@ def look(path, found):
             told("L14", at, "a character that is not one from the space to ~")
     if len(text.splitlines()) > 399:
         told("L10", 400, "a file of more than 399 lines")
-    for node in ast.walk(ast.parse(text)):
+    tree = ast.parse(text)
+    for node in ast.walk(tree):
         look_at(node, told)
+        if isinstance(node, ast.Call) and isinstance(node.func, ast.Attribute):
+            if node.func.attr not in METHODS | own_methods and not node.func.attr.startswith("__"):
+                told("L25", node.lineno, f"the method {node.func.attr}")
+    look_at_bindings(tree, told)
+
+
+def look_at_bindings(tree, told):
+    """Names in functions that are those of a class or an import of the file."""
+    taken = {node.name for node in ast.walk(tree) if isinstance(node, ast.ClassDef)}
+    taken |= {name.name for node in ast.walk(tree) if isinstance(node, ast.ImportFrom) for name in node.names}
+    for node in ast.walk(tree):
+        name = node.arg if isinstance(node, ast.arg) else None
+        if isinstance(node, ast.Name) and isinstance(node.ctx, ast.Store):
+            name = node.id
+        if name in taken:
+            told("L15", node.lineno, f"{name} is the name of a class or an import")
+
+
+def methods_of(path):
+    classes = [node for node in ast.walk(ast.parse(path.read_text(encoding="utf-8"))) if isinstance(node, ast.ClassDef)]
+    return {part.name for found in classes for part in found.body if isinstance(part, ast.FunctionDef)}
 
 
 def look_at(node, told):
@@ -87,9 +116,10 @@ def look_at_names(node, told):
 
 def main():
     found = []
+    own_methods = {name for path in PACKAGE.rglob("*.py") for name in methods_of(path)}
     for path in sorted(PACKAGE.rglob("*")):
         if path.suffix == ".py":
-            look(path, found)
+            look(path, own_methods, found)
         elif path.name != "__pycache__" and path.suffix != ".pyc":
             found.append(f"{path.relative_to(ROOT)}: L1: the package contains files .py only")
     for line in found:

@@ -5,6 +5,8 @@ from contractbook.plain import is_amount, is_between, is_word
 
 DEEPEST = 12
 
+NONE = ("none",)
+
 # Each form by its word: the kinds of the parts that follow the word.
 NUMBERS = {
     "num": ("amount",),
@@ -44,16 +46,40 @@ def size_of(contract):
     count = 0
     waiting = [contract]
     while waiting:
-        inner = _contracts_in(waiting.pop())
+        inner = contracts_in(waiting.pop())
         waiting.extend(inner)
         count += 1
     return count
 
 
-def _contracts_in(contract):
+def contracts_in(contract):
     """The contracts that stand directly within this one."""
     kinds = CONTRACTS[contract[0]]
     return [part for kind, part in zip(kinds, contract[1:]) if kind == "contract"]
+
+
+def with_contracts(contract, inner):
+    """This contract with others in the place of those that stand directly within it."""
+    # In each form they stand behind all else.
+    return contract[:len(contract) - len(inner)] + tuple(inner)
+
+
+def turned_side(side, one, other):
+    """The side that stands in the place of this one where two sides are in one another's place."""
+    if side == one:
+        return other
+    if side == other:
+        return one
+    return side
+
+
+def kinds_behind(word, kind):
+    """The kinds of the parts behind a word, or None where nothing of this kind has the word."""
+    if kind == "contract":
+        return CONTRACTS.get(word)
+    if kind == "condition":
+        return CONDITIONS.get(word)
+    return NUMBERS.get(word)
 
 
 def _need_form(told, kind, depth):
@@ -64,7 +90,7 @@ def _need_form(told, kind, depth):
     # No message shows what was handed in: it may be too large to be shown.
     if not isinstance(told, tuple) or len(told) == 0 or not isinstance(told[0], str):
         raise BadContract(f"a {kind} is a tuple that begins with its word")
-    kinds = _kinds_behind(told[0], kind)
+    kinds = kinds_behind(told[0], kind)
     if kinds is None:
         raise BadContract(f"no {kind} begins with this word")
     if len(told) != len(kinds) + 1:
@@ -76,15 +102,6 @@ def _need_form(told, kind, depth):
             raise BadContract(f"this is no {inner}")
     if kinds[:2] == ("side", "side") and told[1] == told[2]:
         raise BadContract("one and other are two sides")
-
-
-def _kinds_behind(word, kind):
-    """The kinds of the parts behind a word, or None where nothing of this kind has the word."""
-    if kind == "contract":
-        return CONTRACTS.get(word)
-    if kind == "condition":
-        return CONDITIONS.get(word)
-    return NUMBERS.get(word)
 
 
 def _is_plain(told, kind):

@@ -7,11 +7,11 @@ comes, and what would go both ways round isn't there at all. So what is left of 
 is told otherwise becomes alike.
 """
 
+from contractbook.contracts import NONE
 from contractbook.seen import holds, names_in, number_of
 from contractbook.sums import add, added, scaled
 
 ONE = ("num", 1)
-NONE = ("none",)
 
 
 class Strand:

@@ -33,7 +33,12 @@ class Ways:
             known = self.strands.known[strand]
             if known.wait <= self.last - hour:
                 groups = _grouped(groups, known.reads, (strand, count))
-        return [(self._part(pairs, names), tuple([row[name] for name in names])) for pairs, names in groups]
+        found = []
+        for pairs, reads in groups:
+            # In the order of the market, so that what is found doesn't hang on how its names are called.
+            names = [name for name in self._steps if name in reads]
+            found.append((self._part(pairs, names), tuple([row[name] for name in names])))
+        return found
 
     def strands_of(self, total, hour, row):
         """The same with each strand as a part of its own, with how many times it is there and the numbers."""

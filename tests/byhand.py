@@ -112,3 +112,90 @@ def mean(contract, ways, side, good):
     total = sum(comes_to(contract, rows, side, good) * weight for rows, weight in ways)
     found = Fraction(total, sum(weight for _, weight in ways))
     return found.numerator, found.denominator
+
+
+def spans(contract, last, names, side, good):
+    """Between what the side comes to in each hour, told hour by hour and each time anew from the first hour on."""
+    ends = [
+        {name: sorted(first + hour * move for move in (min(moves)[0], max(moves)[0])) for name, first, moves in names}
+        for hour in range(last + 1)
+    ]
+    return [span(contract, 0, hour, side, good, ends) for hour in range(last + 1)]
+
+
+def span(contract, begin, hour, side, good, ends):
+    """Between what the side comes to at an hour by a contract that begins at another one."""
+    word = contract[0]
+    if begin > hour or word == "none":
+        return (0, 0)
+    if word == "give":
+        one, other, what, told = contract[1:]
+        if begin < hour or what != good or side not in (one, other):
+            return (0, 0)
+        low, high = number_span(told, ends[hour])
+        return (low, high) if side == other else (-high, -low)
+    if word == "both":
+        return summed(span(part, begin, hour, side, good, ends) for part in contract[1:])
+    if word == "turned":
+        exchange = {contract[1]: contract[2], contract[2]: contract[1]}
+        return span(contract[3], begin, hour, exchange.get(side, side), good, ends)
+    if word == "later":
+        return span(contract[2], begin + contract[1], hour, side, good, ends)
+    if word == "often":
+        begins = [begin + time * contract[2] for time in range(contract[1])]
+        return summed(span(contract[3], at, hour, side, good, ends) for at in begins)
+    if word == "if":
+        can_hold, can_fail = cans(contract[1], ends[begin])
+        found = [span(contract[2], begin, hour, side, good, ends)] if can_hold else []
+        return covered(found + ([span(contract[3], begin, hour, side, good, ends)] if can_fail else []))
+    all_cans = [cans(contract[1], row) for row in ends]
+    sure = next((at for at in range(begin, len(ends)) if not all_cans[at][1]), len(ends))
+    may = [at for at in range(begin, min(sure + 1, len(ends))) if all_cans[at][0]]
+    if word == "when":
+        found = [span(contract[2], at, hour, side, good, ends) for at in may]
+        return covered(found + ([(0, 0)] if sure == len(ends) else []))
+    if hour >= sure:
+        return (0, 0)
+    inner = span(contract[2], begin, hour, side, good, ends)
+    return covered([inner, (0, 0)]) if may and hour >= may[0] else inner
+
+
+def summed(found):
+    found = list(found)
+    return sum(low for low, _ in found), sum(high for _, high in found)
+
+
+def covered(found):
+    return min(low for low, _ in found), max(high for _, high in found)
+
+
+def number_span(told, row):
+    if told[0] == "num":
+        return told[1], told[1]
+    if told[0] == "read":
+        return tuple(row[told[1]])
+    ones, others = number_span(told[1], row), number_span(told[2], row)
+    found = [number((told[0], ("num", one), ("num", other)), {}) for one, other in product(ones, others)]
+    return min(found), max(found)
+
+
+def cans(asked, row):
+    """Whether a condition can hold, and whether it can fail."""
+    if asked[0] == "below":
+        (low, high), (other_low, other_high) = number_span(asked[1], row), number_span(asked[2], row)
+        return low < other_high, high >= other_low
+    parts = [cans(part, row) for part in asked[1:]]
+    if asked[0] == "not":
+        return parts[0][::-1]
+    holds, fails = zip(*parts)
+    return (all(holds), any(fails)) if asked[0] == "all" else (any(holds), all(fails))
+
+
+def all_within(contract):
+    """A contract and all within."""
+    inner = [part for part in contract[1:] if isinstance(part, tuple)]
+    if contract[0] == "give":
+        return [contract]
+    if contract[0] in ("if", "when", "until"):
+        inner = inner[1:]
+    return [contract] + [found for part in inner for found in all_within(part)]

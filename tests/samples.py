@@ -30,6 +30,32 @@ def above(number):
     return ("below", num(number), RAIN)
 
 
+# Each place at which a contract may stand within another one, with a contract that holds it there.
+PLACES = {
+    "both, ahead": lambda c: ("both", c, give(50, "bob", "carl")),
+    "both, behind": lambda c: ("both", give(50, "bob", "carl"), c),
+    "turned": lambda c: ("turned", "bob", "carl", c),
+    "later": lambda c: ("later", 1, c),
+    "often": lambda c: ("often", 2, 1, c),
+    "if, where it holds": lambda c: ("if", above(0), c, give(7)),
+    "if, else": lambda c: ("if", above(0), give(7), c),
+    "when": lambda c: ("when", above(1), c),
+    "until": lambda c: ("until", above(2), c),
+}
+# Each word of a contract.
+WORDS = {
+    "none": NONE,
+    "give": give(("plus", RAIN, num(10))),
+    "both": ("both", give(RAIN), give(3, "carl", "ann", "silver")),
+    "turned": ("turned", "ann", "bob", give(RAIN)),
+    "later": ("later", 1, give(RAIN)),
+    "often": ("often", 3, 2, give(RAIN)),
+    "if": ("if", above(1), give(RAIN), give(9)),
+    "when": ("when", above(2), give(RAIN)),
+    "until": ("until", above(1), ("often", 9, 1, give(("minus", RAIN, num(20))))),
+}
+
+
 def together(contracts):
     """All of these contracts, none of them deep within the others."""
     if len(contracts) == 1:

@@ -9,7 +9,7 @@ from contractbook.bounds import apart, bounds, stock, worth
 from contractbook.contracts import need_contract, size_of
 from contractbook.going import cut, owed
 from contractbook.markets import Market
-from samples import NONE, RAIN, above, draws, drawn_contract, drawn_market, give, num, rain, together
+from samples import NONE, PLACES, RAIN, WORDS, above, draws, drawn_contract, drawn_market, give, num, rain, together
 
 GIVE = give(1)
 
@@ -19,29 +19,6 @@ def gold(*told):
     return [(hour, "ann", "bob", "gold", many) for hour, many in told]
 
 
-# Each place at which a contract may stand within another one, with a contract that holds it there.
-PLACES = {
-    "both, ahead": lambda c: ("both", c, give(50, "bob", "carl")),
-    "both, behind": lambda c: ("both", give(50, "bob", "carl"), c),
-    "turned": lambda c: ("turned", "bob", "carl", c),
-    "later": lambda c: ("later", 1, c),
-    "often": lambda c: ("often", 2, 1, c),
-    "if, where it holds": lambda c: ("if", above(0), c, give(7)),
-    "if, else": lambda c: ("if", above(0), give(7), c),
-    "when": lambda c: ("when", above(1), c),
-    "until": lambda c: ("until", above(2), c),
-}
-WORDS = {
-    "none": NONE,
-    "give": give(("plus", RAIN, num(10))),
-    "both": ("both", give(RAIN), give(3, "carl", "ann", "silver")),
-    "turned": ("turned", "ann", "bob", give(RAIN)),
-    "later": ("later", 1, give(RAIN)),
-    "often": ("often", 3, 2, give(RAIN)),
-    "if": ("if", above(1), give(RAIN), give(9)),
-    "when": ("when", above(2), give(RAIN)),
-    "until": ("until", above(1), ("often", 9, 1, give(("minus", RAIN, num(20))))),
-}
 ALL_ROWS = (
     rain(), rain(1), rain(0), rain(3, 1), rain(0, 1, 2, 3, 0, 1), rain(3, 2, 1, 0, -1, -2), rain(-1, 5, -1, 5, -1),
     rain(2, 2, 2, 2, 2, 2, 2), rain(0, 0, 0, 0, 3, 0, 0), rain(1, 0, 2, 0, 0, 0, 0, 0),
